@@ -170,7 +170,7 @@ type unread struct {
 }
 
 func (u *unread) Error() string {
-	return "no message: " + u.why
+	return "not read: " + u.why
 }
 
 func openMessage(s, key string) (Message, error) {
@@ -220,7 +220,7 @@ type reader struct {
 
 func (r *reader) text(size int) string {
 	if r.fault == nil && len(r.rest) < size {
-		r.fault = &unread{"its body is cut short"}
+		r.fault = &unread{"it is cut short"}
 	}
 	if r.fault != nil {
 		return ""
@@ -243,7 +243,7 @@ func (r *reader) number(size int) int {
 
 func (r *reader) end() error {
 	if r.fault == nil && r.rest != "" {
-		r.fault = &unread{"its body is too long"}
+		r.fault = &unread{"it is too long"}
 	}
 	return r.fault
 }
